@@ -1,0 +1,1 @@
+"""Asifone: training on a fleet that equals one process word for word."""
