@@ -107,6 +107,9 @@ class LengthTest(unittest.TestCase):
         for bad in (3, 4, -1):
             self.check([(("lin", bad, 0), None), (("bias", bad, 0), None), (("embed", bad, 0, 1), None)])
 
+    def test_a_kind_that_does_not_exist(self):
+        self.assertIsNone(length(("conv", 0)))
+
     def test_no_nodes_before(self):
         for node in (("relu", 0), ("sum", 0), ("add", 0, 0), ("take", 0, 1, 0)):
             self.assertIsNone(length(node, []))
