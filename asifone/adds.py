@@ -3,6 +3,7 @@
 from asifone.matrices import flat, matrix_product, rows_of, sums, turned
 from asifone.nets import operands
 from asifone.scenes import is_dropped, operand_values, row_of
+from asifone.shapes import is_lower
 
 
 def backward(scene):
@@ -72,7 +73,7 @@ def _by_mat_turned(scene, u, node, d):
 
 def _by_lower(scene, u, node, d):
     c = node[1]
-    return [[x if at % c <= at // c else scene.ring.zero() for at, x in enumerate(d)]]
+    return [[x if is_lower(at, c) else scene.ring.zero() for at, x in enumerate(d)]]
 
 
 def _by_sub(scene, u, node, d):

@@ -78,6 +78,14 @@ def row_length(net, v):
         v = operands(node)[0]
 
 
+def sides(net, v):
+    """For a lin, mat or matT node: its rows, the terms of each of its elements, and the length of its rows."""
+    node = net.nodes[v]
+    a = operands(node)[0]
+    terms = net.parameters[node[1]].rows if node[0] == "lin" else node[1]
+    return net.lengths[a] // terms, terms, row_length(net, v)
+
+
 def _lengths(net):
     known = []
     for node in net.nodes:

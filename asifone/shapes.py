@@ -15,6 +15,12 @@ def is_inside(lo, n, length):
     return n >= 1 and lo >= 0 and lo + n <= length
 
 
+def is_lower(j, c):
+    """True if the element j, read in rows of length c as (x, y), has y at most x."""
+    x, y = divmod(j, c)
+    return y <= x
+
+
 def length_of(net, known, node):
     """The length of a node after nodes of known lengths, or None if it lacks what it requires."""
     if not _names_exist(net, known, node):

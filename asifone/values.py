@@ -2,6 +2,7 @@
 
 from asifone.matrices import flat, matrix_product, rows_of, sum_of, turned
 from asifone.scenes import is_dropped, operand_values, row_of
+from asifone.shapes import is_lower
 
 
 def value_of(scene, v):
@@ -56,7 +57,7 @@ def _of_mat_turned(scene, v, node, given):
 
 def _of_lower(scene, v, node, given):
     c = node[1]
-    return [a if at % c <= at // c else scene.ring.zero() for at, a in enumerate(given[0])]
+    return [a if is_lower(at, c) else scene.ring.zero() for at, a in enumerate(given[0])]
 
 
 def _of_add(scene, v, node, given):

@@ -3,8 +3,9 @@
 import random
 
 from asifone.jobs import Job
-from asifone.nets import Net, Parameter
+from asifone.nets import Net, Parameter, operands
 from asifone.shapes import length_of
+from asifone.terms import count_of
 from asifone.words import mixed, unsigned
 
 LEAST = -2147483648
@@ -24,6 +25,48 @@ batch 2
 rate 0 1
 sample 3 -1 | 2
 sample 5 7 | 0"""
+
+
+# All kinds of nodes; the nodes are numbered as their names tell.
+WHOLE = """input 4
+target 2
+param w 2 3 mixed 26
+param b 1 3 same 5
+param e 3 2 mixed 28
+n0 = input
+n1 = n0 @ w
+n2 = n1 + b
+n3 = embed(e, 1, 3)
+n4 = mat(n2, n3, 2)
+n5 = matT(n2, n3, 3)
+n6 = lower(n4, 3)
+n7 = shift(n6, 2)
+n8 = relu(n7)
+n9 = drop(n8, 3)
+n10 = -2 * n9
+n11 = n10 - n4
+n12 = n11 + n11
+n13 = n12 * n6
+n14 = join(n5, n5)
+n15 = take(n14, 1, 3)
+n16 = target
+n17 = join(n15, n16)
+n18 = mat(n15, n15, 3)
+n19 = matT(n13, n13, 3)
+n20 = sum(n19)
+n21 = sum(n17)
+n22 = n20 + n18
+loss n22 * n21
+batch 3
+seed 11
+beta 3
+point 2
+rate 0 5
+rate 3 -2
+sample 1 -2 3 4 | 5 6
+sample 1 7 -1 2 | 1 1
+sample 9 5 2 -6 | -3 4
+sample 1 2 8 1 | 0 -7"""
 
 
 def some_word(rng):
@@ -51,8 +94,9 @@ def some_node(rng, kind, many, parameters):
 
 def some_net(rng, kinds=KINDS):
     """A random network; kinds that fit seldom are tried more often, those that lead to short nodes less often."""
-    kinds = [*kinds, *kinds, "lin", "bias", "bias", "bias", "embed", "mat", "matT"]
-    kinds = [kind for kind in kinds if kind not in ("sum", "scale", "relu")] + ["sum", "scale", "relu"]
+    many = [*kinds, *kinds, "lin", "bias", "bias", "bias", "embed", "mat", "matT"]
+    many = [kind for kind in many if kind not in ("sum", "scale", "relu")] + ["sum", "scale", "relu"]
+    kinds = [kind for kind in many if kind in kinds]
     fills = [rng.choice([("same", some_word(rng)), ("mixed", rng.randrange(32))]) for _ in range(8)]
     parameters = [Parameter(rng.choice([1, 1, 2, 3, 6]), rng.choice([1, 2, 3, 6]), fill) for fill in fills]
     parameters = parameters[:rng.randrange(1, 9)]
@@ -68,6 +112,21 @@ def some_net(rng, kinds=KINDS):
     return Net(net.inputs, net.targets, parameters, nodes)
 
 
+def live_net(rng, kinds=KINDS):
+    """A random network in which every node has a part in the loss: what no node uses is summed and added at the end."""
+    net = some_net(rng, kinds)
+    nodes = net.nodes[:rng.randrange(5, 13)]
+    used = {a for node in nodes for a in operands(node)}
+    ends = [v for v in range(len(nodes)) if v not in used and nodes[v][0] not in ("input", "target")]
+    ends = ends[-5:] or [len(nodes) - 1]
+    for at, v in enumerate(ends):
+        nodes.append(("sum", v))
+        if at > 0:
+            nodes.append(("add", len(nodes) - 2, len(nodes) - 1))
+    nodes = [("shift", node[1] % 4, node[2]) if node[0] == "shift" else node for node in nodes]
+    return Net(net.inputs, net.targets, net.parameters, nodes)
+
+
 def some_cells(rng, net):
     return [[[some_word(rng) for _ in range(one.cols)] for _ in range(one.rows)] for one in net.parameters]
 
@@ -76,11 +135,48 @@ def some_sample(rng, net):
     return ([some_word(rng) for _ in range(net.inputs)], [some_word(rng) for _ in range(net.targets)])
 
 
-def some_job(rng, kinds=KINDS):
-    net = some_net(rng, kinds)
-    rates = [(rng.choice([0, 1, 7, 4294967295]), some_word(rng)) for _ in range(rng.randrange(5))]
+def some_job(rng, kinds=KINDS, rule=some_net):
+    net = rule(rng, kinds)
+    starts = [rng.choice([0, 0, 1, 7, 4294967295]) for _ in range(rng.randrange(5))]
+    rates = [(start, some_word(rng)) for start in starts]
     data = [some_sample(rng, net) for _ in range(rng.randrange(1, 13))]
-    return Job(net, some_word(rng), rng.randrange(1, 5), some_word(rng), rng.randrange(32), rates, data)
+    point = rng.choice([0, 1, 2, 5, 31, rng.randrange(32)])
+    return Job(net, some_word(rng), rng.randrange(1, 5), some_word(rng), point, rates, data)
+
+
+def live_job(rng, kinds=KINDS):
+    return some_job(rng, kinds, live_net)
+
+
+def some_name(rng, job):
+    """A random name of the job, of each kind alike."""
+    net, n, t = job.net, rng.choice([0, 1, 2, 2, 10 ** 30]), rng.randrange(job.batch)
+    kind = rng.choice(("par", "mom", "val", "pre", "inc", "bac", "grd", "los"))
+    p = rng.randrange(len(net.parameters))
+    cell = (p, rng.randrange(net.parameters[p].rows), rng.randrange(net.parameters[p].cols))
+    if kind in ("par", "mom"):
+        return (kind, n, *cell)
+    if kind == "grd":
+        return (kind, n, *cell, *some_range(rng, job.batch))
+    if kind == "los":
+        return (kind, n, *some_range(rng, job.batch))
+    wanted = {"pre": ("lin", "mat", "matT", "sum"), "bac": ("lin", "mat", "matT")}.get(kind, KINDS)
+    nodes = [v for v, node in enumerate(net.nodes) if node[0] in wanted]
+    if not nodes:
+        return ("los", n, *some_range(rng, job.batch))
+    v = rng.choice(nodes)
+    if kind == "bac":
+        s = rng.randrange(len(operands(net.nodes[v])))
+        i = rng.randrange(net.lengths[operands(net.nodes[v])[s]])
+        return (kind, n, t, v, s, i, *some_range(rng, count_of(job, (kind, n, t, v, s, i, 0, 0))))
+    j = rng.randrange(net.lengths[v])
+    if kind == "pre":
+        return (kind, n, t, v, j, *some_range(rng, count_of(job, (kind, n, t, v, j, 0, 0))))
+    return (kind, n, t, v, j) if kind == "val" else (kind, n, t, v, j, rng.randrange(v + 1, len(net.nodes) + 1))
+
+
+def some_range(rng, many):
+    return sorted((rng.randrange(many + 1), rng.randrange(many + 1)))
 
 
 def told(job):
