@@ -18,11 +18,16 @@ def backward(scene):
     return adjoints, gradients
 
 
-def _add_to_operands(scene, u, adjoints):
+def amounts_of(scene, u, d):
+    """What the node u with the adjoint d adds to the adjoints of its operands: a vector for each of them."""
     node = scene.net.nodes[u]
     rule = AMOUNTS[node[0]]
-    amounts = rule(scene, u, node, adjoints[u])
-    for a, more in zip(operands(node), amounts):
+    return rule(scene, u, node, d)
+
+
+def _add_to_operands(scene, u, adjoints):
+    amounts = amounts_of(scene, u, adjoints[u])
+    for a, more in zip(operands(scene.net.nodes[u]), amounts):
         adjoints[a] = sums(scene.ring, adjoints[a], more)
 
 

@@ -1,4 +1,4 @@
-"""The bounds of networks, jobs and texts."""
+"""The bounds of networks, jobs, texts and layouts."""
 
 MOST_PLACES = 8
 MOST_PARAMETERS = 8
@@ -13,3 +13,6 @@ MOST_TOKENS = 40
 MOST_LETTERS = 12
 LEAST_DIVISOR = 2
 GREATEST_NUMBER = 4294967295
+MOST_COPIES = 4
+MOST_WAYS = 4
+MOST_RANKS = 6

@@ -35,7 +35,7 @@ def _is_cell(job, p, i, j):
 
 
 def _is_element(job, t, v, j):
-    return t < job.batch and v < len(job.net.nodes) and j < job.net.lengths[v]
+    return t < job.batch and v < len(job.net.lengths) and j < job.net.lengths[v]
 
 
 def _is_pre(job, t, v, j, lo, hi):
@@ -49,7 +49,7 @@ def _is_inc(job, t, v, j, u):
 
 
 def _is_bac(job, t, u, s, i, lo, hi):
-    if t >= job.batch or u >= len(job.net.nodes) or job.net.nodes[u][0] not in ("lin", "mat", "matT"):
+    if t >= job.batch or u >= len(job.net.lengths) or job.net.nodes[u][0] not in ("lin", "mat", "matT"):
         return False
     given = operands(job.net.nodes[u])
     if s >= len(given) or i >= job.net.lengths[given[s]]:

@@ -1,12 +1,12 @@
-"""What several tests share: random networks and jobs, and the tables of the document, computed slowly."""
+"""What several tests share: job texts, random networks, jobs and names."""
 
 import random
 
 from asifone.jobs import Job
+from asifone.layouts import Layout, fits
 from asifone.nets import Net, Parameter, operands
 from asifone.shapes import length_of
 from asifone.terms import count_of
-from asifone.words import mixed, unsigned
 
 LEAST = -2147483648
 GREATEST = 2147483647
@@ -148,9 +148,9 @@ def live_job(rng, kinds=KINDS):
     return some_job(rng, kinds, live_net)
 
 
-def some_name(rng, job):
+def some_name(rng, job, steps=(0, 1, 2, 2, 10 ** 30)):
     """A random name of the job, of each kind alike."""
-    net, n, t = job.net, rng.choice([0, 1, 2, 2, 10 ** 30]), rng.randrange(job.batch)
+    net, n, t = job.net, rng.choice(steps), rng.randrange(job.batch)
     kind = rng.choice(("par", "mom", "val", "pre", "inc", "bac", "grd", "los"))
     p = rng.randrange(len(net.parameters))
     cell = (p, rng.randrange(net.parameters[p].rows), rng.randrange(net.parameters[p].cols))
@@ -179,6 +179,23 @@ def some_range(rng, many):
     return sorted((rng.randrange(many + 1), rng.randrange(many + 1)))
 
 
+def some_layout(rng, job):
+    """A random layout that fits the job."""
+    many = len(job.net.nodes)
+    while True:
+        stages = sorted(rng.sample(range(1, many), min(many - 1, rng.choice([0, 0, 1, 2]))))
+        cut = [rng.randrange(3) > 0 for _ in range(many)]
+        layout = Layout(rng.randrange(1, 5), stages, rng.choice([1, 2, 3, 4]), cut, rng.random() < 0.5,
+                        rng.random() < 0.5)
+        if fits(job, layout):
+            return layout
+
+
+def told_layout(layout):
+    """Everything that a layout holds."""
+    return layout.copies, layout.stages, layout.ways, layout.cut, layout.spread, layout.redo
+
+
 def told(job):
     """Everything that a job holds."""
     net = job.net
@@ -190,147 +207,3 @@ def told(job):
 
 def rng_of(seed):
     return random.Random(seed)
-
-
-class Slow:
-    """The tables of [7] and [9], element by element."""
-
-    def __init__(self, scene):
-        self.scene = scene
-        self.ring = scene.ring
-        self.net = scene.net
-
-    def total(self, numbers):
-        result = self.ring.zero()
-        for number in numbers:
-            result = self.ring.plus(result, number)
-        return result
-
-    def sides(self, node):
-        """The numbers (m, r, c) of a lin, mat or matT node."""
-        values = self.scene.computed
-        if node[0] == "lin":
-            rows, cols = self.net.parameters[node[1]].rows, self.net.parameters[node[1]].cols
-            return len(values[node[2]]) // rows, rows, cols
-        return len(values[node[2]]) // node[1], node[1], len(values[node[3]]) // node[1]
-
-    def row(self, p, at):
-        return unsigned(self.scene.sample[0][at]) % self.net.parameters[p].rows
-
-    def dropped(self, v, j):
-        return unsigned(mixed(self.scene.seed, [1, self.scene.spot, v, j])) % self.net.nodes[v][1] == 0
-
-    def value(self, v):
-        return [self.element(v, j) for j in range(self.net.lengths[v])]
-
-    def element(self, v, j):
-        node, ring, values, cells = self.net.nodes[v], self.ring, self.scene.computed, self.scene.cells
-        kind = node[0]
-        if kind in ("input", "target"):
-            return ring.still(self.scene.sample[("input", "target").index(kind)][j])
-        if kind in ("lin", "mat", "matT"):
-            _, r, c = self.sides(node)
-            x, y = j // c, j % c
-            a = values[node[2]]
-            right = {
-                "lin": lambda i: cells[node[1]][i][y],
-                "mat": lambda i: values[node[3]][i * c + y],
-                "matT": lambda i: values[node[3]][y * r + i],
-            }[kind]
-            return self.total([ring.times(a[x * r + i], right(i)) for i in range(r)])
-        if kind == "bias":
-            cols = self.net.parameters[node[1]].cols
-            return ring.plus(values[node[2]][j], cells[node[1]][0][j % cols])
-        if kind == "embed":
-            cols = self.net.parameters[node[1]].cols
-            return cells[node[1]][self.row(node[1], node[2] + j // cols)][j % cols]
-        if kind == "lower":
-            return values[node[2]][j] if j % node[1] <= j // node[1] else ring.zero()
-        if kind in ("add", "sub", "mul"):
-            method = {"add": ring.plus, "sub": ring.minus, "mul": ring.times}[kind]
-            return method(values[node[1]][j], values[node[2]][j])
-        if kind == "scale":
-            return ring.times(ring.still(node[1]), values[node[2]][j])
-        if kind == "shift":
-            return ring.divided(values[node[2]][j], node[1])
-        if kind == "relu":
-            return values[node[1]][j] if ring.positive(values[node[1]][j]) else ring.zero()
-        if kind == "drop":
-            return ring.zero() if self.dropped(v, j) else values[node[2]][j]
-        if kind == "sum":
-            return self.total(values[node[1]])
-        if kind == "join":
-            return (values[node[1]] + values[node[2]])[j]
-        return values[node[3]][node[1] + j]
-
-    def backward(self):
-        ring, values = self.ring, self.scene.computed
-        self.adjoints = [[ring.zero() for _ in value] for value in values]
-        self.adjoints[-1][0] = ring.one()
-        self.gradients = [[[ring.zero() for _ in row] for row in matrix] for matrix in self.scene.cells]
-        for u in range(len(values) - 1, -1, -1):
-            self.process(u)
-        return self.adjoints, self.gradients
-
-    def to(self, a, j, amount):
-        self.adjoints[a][j] = self.ring.plus(self.adjoints[a][j], amount)
-
-    def to_cell(self, p, i, j, amount):
-        self.gradients[p][i][j] = self.ring.plus(self.gradients[p][i][j], amount)
-
-    def process(self, u):
-        node, ring, values, cells = self.net.nodes[u], self.ring, self.scene.computed, self.scene.cells
-        d, kind = list(self.adjoints[u]), node[0]
-        if kind in ("lin", "mat", "matT"):
-            m, r, c = self.sides(node)
-            a = values[node[2]]
-            for x in range(m):
-                for i in range(r):
-                    for y in range(c):
-                        if kind == "lin":
-                            self.to(node[2], x * r + i, ring.times(d[x * c + y], cells[node[1]][i][y]))
-                            self.to_cell(node[1], i, y, ring.times(a[x * r + i], d[x * c + y]))
-                        else:
-                            at = i * c + y if kind == "mat" else y * r + i
-                            self.to(node[2], x * r + i, ring.times(d[x * c + y], values[node[3]][at]))
-                            self.to(node[3], at, ring.times(a[x * r + i], d[x * c + y]))
-            return
-        for j, amount in enumerate(d):
-            self.spread(u, node, kind, j, amount)
-
-    def spread(self, u, node, kind, j, amount):
-        ring, values = self.ring, self.scene.computed
-        zero = ring.zero()
-        if kind == "bias":
-            self.to(node[2], j, amount)
-            self.to_cell(node[1], 0, j % self.net.parameters[node[1]].cols, amount)
-        elif kind == "embed":
-            cols = self.net.parameters[node[1]].cols
-            self.to_cell(node[1], self.row(node[1], node[2] + j // cols), j % cols, amount)
-        elif kind == "lower":
-            self.to(node[2], j, amount if j % node[1] <= j // node[1] else zero)
-        elif kind == "add":
-            self.to(node[1], j, amount)
-            self.to(node[2], j, amount)
-        elif kind == "sub":
-            self.to(node[1], j, amount)
-            self.to(node[2], j, ring.minus(zero, amount))
-        elif kind == "mul":
-            self.to(node[1], j, ring.times(amount, values[node[2]][j]))
-            self.to(node[2], j, ring.times(amount, values[node[1]][j]))
-        elif kind == "scale":
-            self.to(node[2], j, ring.times(ring.still(node[1]), amount))
-        elif kind == "shift":
-            self.to(node[2], j, ring.divided(amount, node[1]))
-        elif kind == "relu":
-            self.to(node[1], j, amount if ring.positive(values[node[1]][j]) else zero)
-        elif kind == "drop":
-            self.to(node[2], j, zero if self.dropped(u, j) else amount)
-        elif kind == "sum":
-            for at in range(len(values[node[1]])):
-                self.to(node[1], at, amount)
-        elif kind == "join":
-            first = len(values[node[1]])
-            self.to(node[1] if j < first else node[2], j if j < first else j - first, amount)
-        elif kind == "take":
-            self.to(node[3], node[1] + j, amount)

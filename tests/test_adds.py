@@ -5,7 +5,8 @@ from asifone.nets import Net, Parameter
 from asifone.rings import DualRing, WordRing
 from asifone.scenes import Scene, is_dropped
 from asifone.values import forward
-from tests.support import KINDS, Slow, rng_of, some_cells, some_net, some_sample
+from tests.slow import Slow
+from tests.support import KINDS, rng_of, some_cells, some_net, some_sample
 
 PARAMETERS = [Parameter(rows, cols, ("same", 0)) for rows, cols in ((2, 2), (1, 2), (3, 1))]
 CELLS = [[[1, 2], [3, 4]], [[10, 20]], [[5], [6], [7]]]

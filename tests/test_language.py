@@ -18,6 +18,11 @@ METHODS = set(
     " items join keys ljust lower lstrip partition pop remove replace reverse rfind rjust rpartition rsplit rstrip"
     " setdefault split splitlines startswith strip update upper values zfill bit_length __init__".split()
 )
+# No attribute has such a name.
+OF_BUILTIN_VALUES = set(
+    "items keys values pop update append clear extend insert remove reverse setdefault sort args encode decode hex"
+    " fromhex format".split()
+)
 NEVER = set("register mro elements open input law version_info with_traceback add_note".split())
 BARRED = set(
     "attrgetter breakpoint builtins compile copyright credits delattr dir eval exec exit gc globals help id importlib"
@@ -141,6 +146,12 @@ class NamesTest(unittest.TestCase):
                 if isinstance(part, ast.Call) and isinstance(part.func, ast.Attribute):
                     self.assertIn(part.func.attr, METHODS | own, name)
 
+    def test_attributes_that_are_stored(self):
+        for name, tree in trees():
+            for part in ast.walk(tree):
+                if isinstance(part, ast.Attribute) and isinstance(part.ctx, ast.Store):
+                    self.assertNotIn(part.attr, OF_BUILTIN_VALUES, name)
+
     def test_builtins(self):
         for name, tree in trees():
             for part in ast.walk(tree):
@@ -156,6 +167,14 @@ class ExpressionsTest(unittest.TestCase):
                 self.assertNotIsInstance(part, banned, name)
                 if isinstance(part, ast.BinOp) and isinstance(part.op, ast.Pow):
                     self.assertIsInstance(part.right, ast.Constant, name)
+
+    def test_stars_of_calls(self):
+        plain = (ast.Name, ast.Attribute, ast.Constant, ast.List, ast.Tuple, ast.Dict)
+        for name, tree in trees():
+            for part in ast.walk(tree):
+                if isinstance(part, ast.Call) and any(isinstance(one, ast.Starred) for one in part.args):
+                    for one in part.args:
+                        self.assertIsInstance(one.value if isinstance(one, ast.Starred) else one, plain, name)
 
     def test_constants(self):
         for name, tree in trees():

@@ -1,6 +1,8 @@
 import unittest
 
+from asifone.jobs import Job
 from asifone.names import code_of, is_name, place
+from asifone.nets import Net
 from asifone.texts import job_of
 from tests.support import WHOLE, told
 
@@ -92,6 +94,12 @@ class IsNameTest(unittest.TestCase):
             self.assertIs(is_name(job, (kind, 0, 0, 0, 0)), False)
         self.assertIs(is_name(job, ("grd", 0, 0, 0, 0, 0, 0)), False)
         self.assertIs(is_name(job, ("los", 0, 0, 1)), True)
+
+    def test_nodes_without_a_length(self):
+        job = Job(Net(1, 1, [], [("input",), ("shift", 32, 0), ("sum", 1)]), 0, 1, 0, 0, [], [([1], [1])])
+        self.assertIs(is_name(job, ("val", 0, 0, 0, 0)), True)
+        for name in (("val", 0, 0, 1, 0), ("inc", 0, 0, 2, 0, 3), ("pre", 0, 0, 2, 0, 0, 1)):
+            self.assertIs(is_name(job, name), False)
 
     def test_job_stays(self):
         before = repr(told(JOB))

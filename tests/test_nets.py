@@ -95,6 +95,10 @@ class IsNetTest(unittest.TestCase):
         for number, result in ((0, False), (1, True), (8, True), (9, False), (-1, False)):
             self.assertIs(is_net(small(inputs=number)), result, number)
             self.assertIs(is_net(small(targets=number)), result, number)
+        # Also where no node has the inputs.
+        self.assertIs(is_net(Net(1, 1, [], [("target",)])), True)
+        self.assertIs(is_net(Net(0, 1, [], [("target",)])), False)
+        self.assertIs(is_net(Net(1, 0, [], [("input",)])), False)
 
     def test_number_of_parameters(self):
         self.assertIs(is_net(small(parameters=[same(1, 1)] * 8)), True)

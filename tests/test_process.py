@@ -12,7 +12,8 @@ from asifone.rings import WordRing
 from asifone.scenes import Scene
 from asifone.texts import job_of
 from asifone.values import forward
-from tests.support import EXAMPLE, GREATEST, LEAST, Slow, live_job, rng_of, some_cells, told
+from tests.slow import slow_next, slow_scene, word
+from tests.support import EXAMPLE, GREATEST, LEAST, live_job, rng_of, some_cells, told
 
 # The loss is w * x, so that the gradient of w is the input x.
 LINEAR = Net(1, 1, [Parameter(1, 1, ("same", 100))], [("input",), ("lin", 0, 0)])
@@ -20,42 +21,6 @@ LINEAR = Net(1, 1, [Parameter(1, 1, ("same", 100))], [("input",), ("lin", 0, 0)]
 
 def linear(xs, batch=1, factor=0, point=0, rates=()):
     return Job(LINEAR, 0, batch, factor, point, list(rates), [([x], [0]) for x in xs])
-
-
-def word(n):
-    return (n + 2 ** 31) % 2 ** 32 - 2 ** 31
-
-
-def rounded(n, k):
-    return n if k == 0 else word(n + 2 ** (k - 1)) // 2 ** k
-
-
-def slow_scene(job, cells, step, t):
-    spot = step * job.batch + t
-    scene = Scene(job.net, WordRing(), job.seed, cells, job.data[sample_at(job, spot)], spot)
-    slow = Slow(scene)
-    for v in range(len(job.net.nodes)):
-        scene.computed.append(slow.value(v))
-    return scene.computed, *slow.backward()
-
-
-def slow_rate(job, step):
-    words = [rate for start, rate in job.rates if start <= step]
-    return words[-1] if words else 0
-
-
-def slow_next(job, step, cells, moments):
-    scenes = [slow_scene(job, cells, step, t) for t in range(job.batch)]
-    cells, moments = [[list(row) for row in one] for one in cells], [[list(row) for row in one] for one in moments]
-    for p, parameter in enumerate(job.net.parameters):
-        for i in range(parameter.rows):
-            for j in range(parameter.cols):
-                g = sum(gradients[p][i][j] for _, _, gradients in scenes)
-                m = word(rounded(word(job.factor * moments[p][i][j]), job.point) + g)
-                moments[p][i][j] = m
-                w = cells[p][i][j]
-                cells[p][i][j] = word(w - rounded(word(slow_rate(job, step) * m), job.point))
-    return cells, moments, word(sum(values[-1][0] for values, _, _ in scenes))
 
 
 class SampleTest(unittest.TestCase):

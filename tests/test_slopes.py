@@ -7,19 +7,12 @@ from asifone.process import gradients_of, loss_with, values_of
 from asifone.rings import DualRing
 from asifone.scenes import Scene
 from asifone.slopes import curvature, moved, product, roundings, slope
-from tests.support import GREATEST, KINDS, LEAST, Slow, live_job, rng_of, some_cells, told
+from tests.slow import Slow, rounded, word
+from tests.support import GREATEST, KINDS, LEAST, live_job, rng_of, some_cells, told
 
 SMOOTH = [kind for kind in KINDS if kind != "shift"]
 SHIFTED = ("lin", "bias", "embed", "mat", "mul", "join", "shift", "shift")
 ONE_CELL = [Parameter(1, 1, ("same", 0))]
-
-
-def word(n):
-    return (n + 2 ** 31) % 2 ** 32 - 2 ** 31
-
-
-def rounded(n, k):
-    return n if k == 0 else word(n + 2 ** (k - 1)) // 2 ** k
 
 
 def job_with(nodes, xs=(3,), parameters=ONE_CELL, batch=1):

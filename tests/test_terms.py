@@ -4,6 +4,7 @@ from asifone.names import is_name
 from asifone.process import adjoints_of, values_of
 from asifone.terms import count_of, term_of
 from asifone.texts import job_of
+from tests.slow import word
 from tests.support import WHOLE, live_job, rng_of, some_cells, told
 
 JOB = job_of(WHOLE)
@@ -20,10 +21,6 @@ def par(p, i, j):
 
 def adj(v, j):
     return ("inc", N, T, v, j, v + 1)
-
-
-def word(n):
-    return (n + 2 ** 31) % 2 ** 32 - 2 ** 31
 
 
 def terms(job, name):

@@ -4,7 +4,8 @@ from asifone.nets import Net, Parameter
 from asifone.rings import DualRing, WordRing
 from asifone.scenes import Scene, is_dropped
 from asifone.values import forward, value_of
-from tests.support import GREATEST, LEAST, Slow, rng_of, some_cells, some_net, some_sample
+from tests.slow import Slow
+from tests.support import GREATEST, LEAST, rng_of, some_cells, some_net, some_sample
 
 PARAMETERS = [(2, 3), (1, 2), (3, 2)]
 CELLS = [[[1, 2, 3], [4, 5, 6]], [[10, 20]], [[1, -1], [2, -2], [3, -3]]]
