@@ -3,9 +3,8 @@
 from asifone.derivations import plain_way
 from asifone.layouts import part_begin, part_of, rank_at
 from asifone.nets import operands
-from asifone.places import (
-    block_of, copy_of, homes, loss_rank, ranks_at, ranks_of_element, stage_of, updaters, ways_of_element,
-)
+from asifone.places import block_of, copy_of, homes, loss_rank, ranks_at
+from asifone.places import ranks_of_element, stage_of, updaters, ways_of_element
 from asifone.terms import count_of
 
 
