@@ -69,6 +69,17 @@ sample 9 5 2 -6 | -3 4
 sample 1 2 8 1 | 0 -7"""
 
 
+# A network whose nodes need one another as in the example of the letters: c is made of a and b, d of b and c.
+LETTERS = """input 1
+target 1
+a = input
+b = target
+c = a * b
+d = b * c
+loss d
+sample 2 | 3"""
+
+
 def some_word(rng):
     small = rng.randrange(-9, 10)
     return rng.choice([small, small, small, rng.randrange(LEAST, GREATEST + 1), LEAST, GREATEST, 0])
@@ -207,3 +218,11 @@ def told(job):
 
 def rng_of(seed):
     return random.Random(seed)
+
+
+def small_job(rng, most=40, cells=10):
+    """A random job with few elements and cells, so that its plans are short."""
+    while True:
+        job = live_job(rng)
+        if sum(job.net.lengths) <= most and sum(one.rows * one.cols for one in job.net.parameters) <= cells:
+            return job

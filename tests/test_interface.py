@@ -52,10 +52,21 @@ INTERFACE = {
         "updaters(job, layout, p, i, j)", "cells_of(net)",
     ],
     "homes": ["way_in(job, layout, name)", "ranks_in(job, layout, name)"],
+    "goals": ["needed(job, layout, goals, known)", "acts_for(job, layout, goals, known)"],
+    "tasks": ["step_tasks(job, layout, step)", "tasks(job, layout, start, steps)"],
+    "letters": ["needs_of(job, act)", "gives_of(act)", "wired(job, acts)"],
+    "drops": ["tidy(job, acts)"],
+    "plans": ["Plan(acts, ranks)", "plan_of(job, layout, start, steps)", "trace(plan, name)"],
+    "counts": ["rank_counts(plan, rank)", "counts(plan)"],
 }
 
 RING = ["zero()", "one()", "still(word)", "plus(a, b)", "minus(a, b)", "times(a, b)", "divided(a, k)", "positive(a)"]
-METHODS = {("rings", "WordRing"): RING, ("rings", "DualRing"): RING, ("truths", "Truths"): ["word(name)", "state(step)"]}
+METHODS = {
+    ("rings", "WordRing"): RING,
+    ("rings", "DualRing"): RING,
+    ("truths", "Truths"): ["word(name)", "state(step)"],
+    ("plans", "Plan"): ["acts_of(rank)"],
+}
 
 
 class InterfaceTest(unittest.TestCase):
