@@ -29,3 +29,8 @@ def renumbered(name, at, number):
 def with_range(name, lo, hi):
     """The same name of a sum with another range."""
     return name[:-2] + (lo, hi)
+
+
+def state_names(cells, step):
+    """The names of the parameters and moments of these cells before a step, cell by cell."""
+    return [(kind, step, *cell) for cell in cells for kind in ("par", "mom")]

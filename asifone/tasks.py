@@ -1,6 +1,7 @@
 """The tasks of a step and of a layout: who makes, loads, saves and tells what, still without letters."""
 
 from asifone.goals import acts_for, needed
+from asifone.naming import state_names
 from asifone.places import block_of, cells_of, loss_rank, updaters
 
 
@@ -63,14 +64,14 @@ def _state_tasks(job, layout, step):
 
 def _loads(job, layout, step):
     cells = _cells_by_rank(job, layout)
-    return [(rank, ("load", _state_names(cells[rank], step))) for rank in sorted(cells)]
+    return [(rank, ("load", tuple(state_names(cells[rank], step)))) for rank in sorted(cells)]
 
 
 def _saves(job, layout, step):
     cells = {}
     for cell in cells_of(job.net):
         cells.setdefault(min(updaters(job, layout, *cell)), []).append(cell)
-    return [(rank, ("save", _state_names(cells[rank], step))) for rank in sorted(cells)]
+    return [(rank, ("save", tuple(state_names(cells[rank], step)))) for rank in sorted(cells)]
 
 
 def _cells_by_rank(job, layout):
@@ -80,7 +81,3 @@ def _cells_by_rank(job, layout):
         for rank in updaters(job, layout, *cell):
             cells.setdefault(rank, []).append(cell)
     return cells
-
-
-def _state_names(cells, step):
-    return tuple([(kind, step, *cell) for cell in cells for kind in ("par", "mom")])

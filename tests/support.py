@@ -226,3 +226,25 @@ def small_job(rng, most=40, cells=10):
         job = live_job(rng)
         if sum(job.net.lengths) <= most and sum(one.rows * one.cols for one in job.net.parameters) <= cells:
             return job
+
+
+def tiny_net(rng, kinds=KINDS):
+    """A random network of few short nodes and few small parameters."""
+    fill = ("mixed", rng.choice([24, 28, 30]))
+    parameters = [Parameter(rng.choice([1, 2]), rng.choice([1, 2]), fill) for _ in range(rng.choice([0, 1, 1, 2, 2]))]
+    net = Net(rng.choice([1, 2]), rng.choice([1, 2]), parameters, [])
+    nodes, known = [("input",)], [net.inputs]
+    many = [*kinds, "lin", "lin", "bias", "bias", "embed"]
+    for _ in range(40):
+        node = some_node(rng, rng.choice(many), len(nodes), max(1, len(parameters)))
+        length = length_of(net, known, node)
+        if length is not None and length <= 4 and len(nodes) < 7:
+            nodes.append(("shift", node[1] % 4, node[2]) if node[0] == "shift" else node)
+            known.append(length)
+    return Net(net.inputs, net.targets, parameters, nodes + [("sum", len(nodes) - 1)])
+
+
+def tiny_job(rng):
+    """A random job of a tiny network."""
+    job = some_job(rng, KINDS, tiny_net)
+    return Job(job.net, job.seed, job.batch, job.factor, job.point % 4, job.rates, job.data)

@@ -58,6 +58,12 @@ INTERFACE = {
     "drops": ["tidy(job, acts)"],
     "plans": ["Plan(acts, ranks)", "plan_of(job, layout, start, steps)", "trace(plan, name)"],
     "counts": ["rank_counts(plan, rank)", "counts(plan)"],
+    "times": ["times(plan, *, make, word, file, delay)", "best(rows, memory)"],
+    "varints": ["number_bytes(n)", "word_bytes(word)", "checksum(data)"],
+    "files": ["follows(name)", "file_of(facts)"],
+    "shards": ["facts_of(data)"],
+    "store": ["stored(files)", "restored(job, files, step)", "needed_files(job, files, step)"],
+    "fleets": ["Fleet(job, ranks)"],
 }
 
 RING = ["zero()", "one()", "still(word)", "plus(a, b)", "minus(a, b)", "times(a, b)", "divided(a, k)", "positive(a)"]
@@ -66,6 +72,12 @@ METHODS = {
     ("rings", "DualRing"): RING,
     ("truths", "Truths"): ["word(name)", "state(step)"],
     ("plans", "Plan"): ["acts_of(rank)"],
+    ("fleets", "Fleet"): [
+        "go(rank)", "start(layout, steps)", "double(letter)", "lose(letter)", "crash(rank)", "tear(rank, size)",
+        "rank_up(rank)", "commit(step)", "sweep(place)", "do(event)", "drive(layouts, steps, seed, *, count)", "undo()",
+        "can(event)", "next_act(rank)", "ranks()", "ready()", "remaining()", "held_by(rank)", "letters()", "files()",
+        "commits()", "told()", "restore(step)", "needed(step)",
+    ],
 }
 
 
@@ -86,3 +98,7 @@ class InterfaceTest(unittest.TestCase):
             body = vars(getattr(importlib.import_module(f"asifone.{module}"), name))
             for told in rows:
                 self.check(body[told[:told.index("(")]], told, module)
+
+    def test_the_property(self):
+        module = importlib.import_module("asifone.fleets")
+        self.assertIsInstance(vars(module.Fleet)["present"], property)
