@@ -46,8 +46,9 @@ def facts_of(data):
     if tuple(data[:4]) != HEAD:
         raise FileError("not a shard file")
     reader = Reader(data)
+    many = reader.number()
     facts = []
-    for _ in range(reader.number()):
+    for _ in range(many):
         start = reader.at
         run = _run_of(reader)
         if facts and run[0][0] == follows(facts[-1][0]):
@@ -62,10 +63,11 @@ def _run_of(reader):
     kind = reader.next_byte()
     if kind >= len(KINDS):
         raise FileError(f"unknown kind {kind} at byte {reader.at - 1}")
-    word, many = KINDS[kind]
-    name = (word,) + tuple([reader.number() for _ in range(many)])
+    word, size = KINDS[kind]
+    name = (word,) + tuple([reader.number() for _ in range(size)])
+    later = reader.number()
     facts = []
-    for _ in range(reader.number() + 1):
+    for _ in range(later + 1):
         facts.append((name, wrap(reader.four_bytes())))
         name = follows(name)
     return facts

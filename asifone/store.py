@@ -11,7 +11,8 @@ def stored(files):
     """The dict from the names that the files have to their words."""
     result = {}
     for data in files:
-        for name, word in words_in(data).items():
+        words = words_in(data)
+        for name, word in words.items():
             result.setdefault(name, word)
     return result
 
